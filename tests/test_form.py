@@ -1,0 +1,72 @@
+"""What is required of the package's form: its interface, and some of the rules of its files."""
+
+import ast
+import pathlib
+import unittest
+
+FOLDER = pathlib.Path(__file__).resolve().parent.parent / "waitbolts"
+INTERFACE = {
+    "locks": {
+        "is_lock": ["thing"], "fault_of": ["thing"], "is_stand": ["lock", "thing"], "is_wish": ["lock", "thing"],
+        "stands_of": ["lock"], "can_step": ["lock", "stand"], "walked": ["lock", "stand", "steps"],
+        "spread": ["lock", "stand", "price"],
+    },
+    "least": {
+        "least": ["lock", "row"], "first_steps": ["lock", "stand", "wish"],
+        "how_many": ["lock", "stand", "wish", "most"],
+    },
+}
+LIBRARY = {"heapq": ["heappush", "heappop"]}
+
+
+class FormTest(unittest.TestCase):
+    def files(self):
+        """Each file of the package with its text and its tree."""
+        for path in sorted(FOLDER.glob("*.py")):
+            text = path.read_text(encoding="utf-8")
+            yield path, text, ast.parse(text)
+
+    def test_the_interface_is_defined_where_it_is_listed(self):
+        for name, functions in INTERFACE.items():
+            tree = ast.parse((FOLDER / (name + ".py")).read_text(encoding="utf-8"))
+            defined = {row.name: row for row in tree.body if isinstance(row, ast.FunctionDef)}
+            for function, names in functions.items():
+                self.assertEqual([arg.arg for arg in defined[function].args.args], names)
+
+    def test_the_folder_has_python_files_alone(self):
+        others = [path.name for path in FOLDER.iterdir() if path.suffix != ".py" and path.name != "__pycache__"]
+        self.assertEqual(others, [])
+        self.assertTrue((FOLDER / "__init__.py").exists())
+
+    def test_sizes_and_signs(self):
+        for path, text, tree in self.files():
+            self.assertLessEqual(len(text.splitlines()), 399, path)
+            self.assertTrue(all(len(line) <= 120 for line in text.splitlines()), path)
+            self.assertTrue(all(sign == "\n" or " " <= sign <= "~" for sign in text), path)
+            for node in ast.walk(tree):
+                if isinstance(node, ast.FunctionDef):
+                    self.assertLessEqual(node.end_lineno - node.lineno + 1, 40, (path, node.name))
+                    self.assertTrue(ast.get_docstring(node) or node.name == "__init__", (path, node.name))
+
+    def test_imports(self):
+        for path, _, tree in self.files():
+            for node in ast.walk(tree):
+                self.assertNotIsInstance(node, ast.Import, path)
+                if isinstance(node, ast.ImportFrom):
+                    self.check_import(path, node)
+
+    def check_import(self, path, node):
+        names = [name.name for name in node.names]
+        self.assertEqual([name.asname for name in node.names], [None] * len(names))
+        if node.module in LIBRARY:
+            self.assertLessEqual(set(names), set(LIBRARY[node.module]), path)
+            return
+        folder, file = node.module.split(".")
+        self.assertEqual((folder, node.level), ("waitbolts", 0), path)
+        tree = ast.parse((FOLDER / (file + ".py")).read_text(encoding="utf-8"))
+        defined = [row.name for row in tree.body if isinstance(row, (ast.FunctionDef, ast.ClassDef))]
+        self.assertLessEqual(set(names), set(defined), path)
+
+
+if __name__ == "__main__":
+    unittest.main()

@@ -1,0 +1,130 @@
+"""Points 2 and 3: what holds of all that is asked, and of all that is refused."""
+
+import copy
+import unittest
+
+from tests import anything
+from tests.makers import ladder_lock, ring_lock
+from waitbolts import errors
+from waitbolts.least import first_steps, how_many, least
+from waitbolts.locks import can_step, fault_of, is_lock, is_stand, is_wish, spread, stands_of, walked
+
+LOCK = ring_lock(3)
+STAND = (1, 0, 0)
+WISH = (None, 0, 1)
+ROW = (STAND, WISH, STAND)
+STEPS = [(1, 1), (0, 0)]
+
+# Of each function the things that are right, and the refusals of what is none, in their order.
+CALLS = [
+    (stands_of, (LOCK,), ["NoLock"]),
+    (is_stand, (LOCK, STAND), ["NoLock"]),
+    (is_wish, (LOCK, WISH), ["NoLock"]),
+    (can_step, (LOCK, STAND), ["NoLock", "NoStand"]),
+    (walked, (LOCK, STAND, STEPS), ["NoLock", "NoStand", "NoStep"]),
+    (spread, (LOCK, STAND, 5), ["NoLock", "NoStand", "NoPrice"]),
+    (least, (LOCK, ROW), ["NoLock", "NoWishes"]),
+    (first_steps, (LOCK, STAND, WISH), ["NoLock", "NoStand", "NoWish"]),
+    (how_many, (LOCK, STAND, WISH, 10 ** 60), ["NoLock", "NoStand", "NoWish", "NoMost"]),
+]
+
+
+class RefusalsTest(unittest.TestCase):
+    def refused(self, ask, given):
+        """The name of the refusal of what is given."""
+        with self.assertRaises(errors.BoltError) as caught:
+            ask(*given)
+        return caught.exception.__class__.__name__
+
+    def test_the_first_that_is_due_is_told(self):
+        for ask, right, names in CALLS:
+            for wrong in range(1, 2 ** len(names)):
+                for thing in (None, True, (), [None], {}, "0", -1):
+                    given = [thing if wrong >> n & 1 else one for n, one in enumerate(right)]
+                    first = [name for n, name in enumerate(names) if wrong >> n & 1][0]
+                    self.assertEqual(self.refused(ask, given), first, (ask, given))
+
+    def test_no_lock_goes_ahead_with_its_fault(self):
+        for thing in anything.near_locks() + anything.plain_things():
+            for ask, right, _ in CALLS:
+                with self.assertRaises(errors.NoLock) as caught:
+                    ask(thing, *[None for _ in right[1:]])
+                self.assertEqual(caught.exception.fault, fault_of(thing))
+
+    def test_no_step_goes_ahead_of_those_behind_it(self):
+        with self.assertRaises(errors.NoStep) as caught:
+            walked(LOCK, STAND, [(1, 1), (True, 0), None])
+        self.assertEqual(caught.exception.nth, 1)
+
+    def test_no_price_goes_ahead_of_too_wide(self):
+        lock = ring_lock(20)
+        self.assertEqual(self.refused(spread, (lock, (0,) * 20, -1)), "NoPrice")
+        self.assertEqual(self.refused(spread, (lock, (0,) * 20, 10 ** 299)), "TooWide")
+
+    def test_truths_are_no_places(self):
+        lock = ((2, ((0, 1, 1, ((),)), (1, 0, 1, ((),)))),)
+        self.assertEqual(self.refused(least, (lock, ((False,), (True,)))), "NoWishes")
+        self.assertEqual(self.refused(can_step, (lock, (True,))), "NoStand")
+        self.assertEqual(self.refused(walked, (lock, (0,), [(False, 1)])), "NoStep")
+        self.assertEqual(self.refused(how_many, (lock, (0,), (1,), True)), "NoMost")
+        self.assertEqual(self.refused(spread, (lock, (0,), False)), "NoPrice")
+
+    def test_lists_are_no_tuples(self):
+        for ask, right, names in CALLS:
+            for n, one in enumerate(right):
+                if isinstance(one, tuple) and n < len(names):
+                    given = right[:n] + (list(one),) + right[n + 1:]
+                    self.assertEqual(self.refused(ask, given), names[n])
+        self.assertIs(is_stand(LOCK, list(STAND)), False)
+        self.assertIs(is_wish(LOCK, list(WISH)), False)
+
+
+class AskedTest(unittest.TestCase):
+    def test_what_is_handed_in_stays(self):
+        for ask, right, _ in CALLS:
+            kept = copy.deepcopy(right)
+            ask(*right)
+            self.assertEqual(repr(kept), repr(right))
+        for thing in anything.near_locks() + anything.plain_things()[:-5]:
+            kept = repr(thing)
+            is_lock(thing)
+            is_stand(LOCK, thing)
+            is_wish(LOCK, thing)
+            self.assertEqual(repr(thing), kept)
+
+    def test_steps_stay_where_they_are_refused(self):
+        steps = [(1, 1), (1, 1), None]
+        with self.assertRaises(errors.NoStep):
+            walked(LOCK, STAND, steps)
+        self.assertEqual(steps, [(1, 1), (1, 1), None])
+
+    def test_whoever_asks_the_same_is_told_the_same(self):
+        for ask, right, _ in CALLS:
+            self.assertEqual(repr(ask(*right)), repr(ask(*copy.deepcopy(right))))
+
+    def test_what_is_told_is_the_askers_own(self):
+        for ask, given in (
+            (can_step, (LOCK, STAND)), (first_steps, (ladder_lock(3), (0, 0, 0), (3, 3, 3))),
+            (first_steps, (LOCK, STAND, STAND)), (spread, (LOCK, STAND, 9)),
+        ):
+            told = ask(*given)
+            kept = copy.deepcopy(told)
+            told.clear()
+            self.assertEqual(ask(*given), kept)
+
+    def test_the_kinds_of_what_is_told(self):
+        self.assertIs(is_lock(LOCK), True)
+        self.assertIs(fault_of(LOCK), None)
+        self.assertIs(type(fault_of(None)), tuple)
+        self.assertIs(type(stands_of(LOCK)), int)
+        self.assertTrue(all(type(step) is tuple for step in can_step(LOCK, STAND)))
+        stand, price = walked(LOCK, STAND, STEPS)
+        self.assertEqual([type(stand), type(price)], [tuple, int])
+        self.assertTrue(all(type(stand) is tuple for stand in spread(LOCK, STAND, 9)))
+        self.assertEqual([type(least(LOCK, ROW)), type(first_steps(LOCK, STAND, WISH))], [int, list])
+        self.assertTrue(all(type(step) is tuple for step in first_steps(LOCK, STAND, WISH)))
+        self.assertIs(type(how_many(LOCK, STAND, WISH, 1)), int)
+
+
+if __name__ == "__main__":
+    unittest.main()

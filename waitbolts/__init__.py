@@ -1,0 +1,1 @@
+"""Waitbolts: locks whose bolts wait on bolts."""
