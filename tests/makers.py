@@ -38,6 +38,20 @@ def line_place(manys, stand):
     return place
 
 
+def line_stand(manys, place):
+    """The stand that is at a place of the row of line_lock's stands."""
+    sizes = [1]
+    for many in manys:
+        sizes.append(sizes[-1] * many)
+    stand = []
+    for size, many in reversed(list(zip(sizes, manys))):
+        at, place = divmod(place, size)
+        if at % 2:
+            place = size - 1 - place
+        stand.append(at)
+    return tuple(reversed(stand))
+
+
 def fork_lock(many):
     """Each bolt goes from 0 to 3 by 1 or by 2, first while those below are at 3, 0 .. 0, then while at 0 .. 0."""
     bolts = []

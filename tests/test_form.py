@@ -15,6 +15,16 @@ INTERFACE = {
         "least": ["lock", "row"], "first_steps": ["lock", "stand", "wish"],
         "how_many": ["lock", "stand", "wish", "most"],
     },
+    "books": {"weighed": ["lock", "book"], "told_way": ["lock", "row"], "meets": ["lock", "book", "row"]},
+    "readings": {
+        "step_at": ["lock", "book", "t"], "stand_at": ["lock", "book", "t"], "price_at": ["lock", "book", "t"],
+        "times": ["lock", "book", "wish"], "time_at": ["lock", "book", "wish", "n"], "moves": ["lock", "book"],
+    },
+    "bookwork": {
+        "joined": ["lock", "book", "second"], "part_of": ["lock", "book", "t", "u"], "back": ["lock", "book"],
+        "mended": ["lock", "book", "wish"], "waste": ["lock", "book", "wish"], "astray": ["lock", "book", "wish"],
+        "settled": ["lock", "book"],
+    },
 }
 LIBRARY = {"heapq": ["heappush", "heappop"]}
 
@@ -65,6 +75,7 @@ class FormTest(unittest.TestCase):
         self.assertEqual((folder, node.level), ("waitbolts", 0), path)
         tree = ast.parse((FOLDER / (file + ".py")).read_text(encoding="utf-8"))
         defined = [row.name for row in tree.body if isinstance(row, (ast.FunctionDef, ast.ClassDef))]
+        defined += [row.targets[0].id for row in tree.body if isinstance(row, ast.Assign)]
         self.assertLessEqual(set(names), set(defined), path)
 
 

@@ -6,14 +6,19 @@ import unittest
 from tests import anything
 from tests.makers import ladder_lock, ring_lock
 from waitbolts import errors
+from waitbolts.books import meets, told_way, weighed
+from waitbolts.bookwork import astray, back, joined, mended, part_of, settled, waste
 from waitbolts.least import first_steps, how_many, least
 from waitbolts.locks import can_step, fault_of, is_lock, is_stand, is_wish, spread, stands_of, walked
+from waitbolts.readings import moves, price_at, stand_at, step_at, time_at, times
 
 LOCK = ring_lock(3)
 STAND = (1, 0, 0)
 WISH = (None, 0, 1)
 ROW = (STAND, WISH, STAND)
 STEPS = [(1, 1), (0, 0)]
+BOOK = (((1, 0), (1, 1), (("step", 1, 1),)), ((1, 0, 0), (0, 1, 0), (("part", 0), ("step", 0, 0))))
+MORE = (((0, 1, 0), (0, 1, 1), (("step", 2, 1),)),)
 
 # Of each function the things that are right, and the refusals of what is none, in their order.
 CALLS = [
@@ -26,6 +31,22 @@ CALLS = [
     (least, (LOCK, ROW), ["NoLock", "NoWishes"]),
     (first_steps, (LOCK, STAND, WISH), ["NoLock", "NoStand", "NoWish"]),
     (how_many, (LOCK, STAND, WISH, 10 ** 60), ["NoLock", "NoStand", "NoWish", "NoMost"]),
+    (weighed, (LOCK, BOOK), ["NoLock", "NoBook"]),
+    (told_way, (LOCK, ROW), ["NoLock", "NoWishes"]),
+    (meets, (LOCK, BOOK, ROW), ["NoLock", "NoBook", "NoWishes"]),
+    (step_at, (LOCK, BOOK, 1), ["NoLock", "NoBook", "NoPlace"]),
+    (stand_at, (LOCK, BOOK, 2), ["NoLock", "NoBook", "NoPlace"]),
+    (price_at, (LOCK, BOOK, 2), ["NoLock", "NoBook", "NoPlace"]),
+    (moves, (LOCK, BOOK), ["NoLock", "NoBook"]),
+    (times, (LOCK, BOOK, WISH), ["NoLock", "NoBook", "NoWish"]),
+    (time_at, (LOCK, BOOK, (None, 1, 0), 1), ["NoLock", "NoBook", "NoWish", "NoPlace"]),
+    (joined, (LOCK, BOOK, MORE), ["NoLock", "NoBook", "NoBook"]),
+    (part_of, (LOCK, BOOK, 1, 2), ["NoLock", "NoBook", "NoPlace", "NoPlace"]),
+    (back, (LOCK, BOOK), ["NoLock", "NoBook"]),
+    (waste, (LOCK, BOOK, WISH), ["NoLock", "NoBook", "NoWish"]),
+    (astray, (LOCK, BOOK, WISH), ["NoLock", "NoBook", "NoWish"]),
+    (mended, (LOCK, BOOK, WISH), ["NoLock", "NoBook", "NoWish"]),
+    (settled, (LOCK, BOOK), ["NoLock", "NoBook"]),
 ]
 
 
@@ -105,7 +126,7 @@ class AskedTest(unittest.TestCase):
     def test_what_is_told_is_the_askers_own(self):
         for ask, given in (
             (can_step, (LOCK, STAND)), (first_steps, (ladder_lock(3), (0, 0, 0), (3, 3, 3))),
-            (first_steps, (LOCK, STAND, STAND)), (spread, (LOCK, STAND, 9)),
+            (first_steps, (LOCK, STAND, STAND)), (spread, (LOCK, STAND, 9)), (moves, (LOCK, BOOK)),
         ):
             told = ask(*given)
             kept = copy.deepcopy(told)
@@ -124,6 +145,19 @@ class AskedTest(unittest.TestCase):
         self.assertEqual([type(least(LOCK, ROW)), type(first_steps(LOCK, STAND, WISH))], [int, list])
         self.assertTrue(all(type(step) is tuple for step in first_steps(LOCK, STAND, WISH)))
         self.assertIs(type(how_many(LOCK, STAND, WISH, 1)), int)
+
+    def test_the_kinds_of_what_is_told_of_books(self):
+        self.assertEqual([type(thing) for thing in weighed(LOCK, BOOK)], [tuple, tuple, int, int])
+        self.assertIs(meets(LOCK, BOOK, (STAND, (0, 1, 0))), True)
+        self.assertEqual([type(ask(LOCK, BOOK, 1)) for ask in (step_at, stand_at, price_at)], [tuple, tuple, int])
+        self.assertEqual([type(moves(LOCK, BOOK)), type(times(LOCK, BOOK, WISH))], [list, int])
+        self.assertEqual([type(ask(LOCK, BOOK, WISH)) for ask in (waste, astray)], [int, int])
+        self.assertIs(type(settled(LOCK, BOOK)), int)
+        told = [told_way(LOCK, ROW), joined(LOCK, BOOK, MORE), part_of(LOCK, BOOK, 1, 2), back(LOCK, BOOK)]
+        for book in told + [mended(LOCK, BOOK, WISH)]:
+            things = [book] + [part for part in book] + [thing for part in book for thing in part + part[2]]
+            self.assertTrue(all(type(thing) is tuple for thing in things))
+            weighed(LOCK, book)
 
 
 if __name__ == "__main__":
