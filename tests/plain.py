@@ -91,3 +91,103 @@ def least_ways(lock, stand, wish):
                 counts[there] += counts[after]
                 firsts[there].append((k, to))
     return firsts[stand], counts[stand]
+
+
+def uses(lock, row, gaps):
+    """A tuple (price, fewest, most): of the least ways that meet a row, the counts of steps along some gaps."""
+    best = {}
+    queue = []
+
+    def come(stand, met, paid, fewest, most):
+        while met < len(row) and meets(stand, row[met]):
+            met += 1
+        old = best.get((stand, met))
+        if old is None or paid < old[0]:
+            best[(stand, met)] = (paid, fewest, most)
+            heappush(queue, (paid, stand, met))
+        elif paid == old[0]:
+            best[(stand, met)] = (paid, min(fewest, old[1]), max(most, old[2]))
+
+    for stand in stands(lock):
+        if meets(stand, row[0]):
+            come(stand, 0, 0, 0, 0)
+    ends = []
+    while queue:
+        paid, stand, met = heappop(queue)
+        if paid > best[(stand, met)][0]:
+            continue
+        _, fewest, most = best[(stand, met)]
+        if met == len(row):
+            ends.append((paid, fewest, most))
+            continue
+        for k, to, price in steps(lock, stand):
+            more = 1 if (k, stand[k], to) in gaps else 0
+            come(behind(stand, k, to), met, paid + price, fewest + more, most + more)
+    price = min([end[0] for end in ends], default=None)
+    ends = [end for end in ends if end[0] == price]
+    return (price, min(end[1] for end in ends), max(end[2] for end in ends)) if ends else None
+
+
+def gaps(lock):
+    """All gaps (k, from, to) of the lock."""
+    return [(k, here, there) for k, (_, some) in enumerate(lock) for here, there, _, _ in some]
+
+
+def with_gap(lock, gap, change):
+    """The lock with one gap's price and ways changed by a function that tells new ones."""
+    bolts = []
+    for k, (many, some) in enumerate(lock):
+        told = []
+        for here, there, price, ways in some:
+            if (k, here, there) == gap:
+                price, ways = change(price, ways)
+            told.append((here, there, price, ways))
+        bolts.append((many, tuple(told)))
+    return tuple(bolts)
+
+
+def priced(lock, gap, price):
+    """The lock with another price of a gap."""
+    return with_gap(lock, gap, lambda _, ways: (price, ways))
+
+
+def without_way(lock, gap, way):
+    """The lock without one way of a gap."""
+    return with_gap(lock, gap, lambda price, ways: (price, tuple(one for one in ways if one != way)))
+
+
+def keeps(lock, paper, back=False):
+    """Whether a paper keeps, or keeps from behind, as the rules are written."""
+    return all(row_keeps(lock, paper, row, back) for row in paper)
+
+
+def row_keeps(lock, paper, row, back):
+    """Whether a row keeps."""
+    never = float("inf")
+
+    def says(wishes):
+        number = paper.get(tuple(wishes), 0) if wishes[0] else 0
+        return never if number is None else number
+
+    last = len(row[0]) - 1
+    places = [wish[last] for wish in row]
+    there = [place for place in places if place is not None]
+    cut = [wish[:-1] for wish in row]
+    if len(set(there)) <= 1:
+        return says(row) <= says(cut)
+    met = there[-1] if back else there[0]
+    for here, to, price, ways in lock[last][1]:
+        for way in ways:
+            for n in range(1, len(row) + 1):
+                some = places[-n:] if back else places[:n]
+                if any(place not in (None, met) for place in some):
+                    continue
+                if back and to == met:
+                    first, second = list(row[:-n]) + [way + (here,)], [way] + cut[-n:]
+                elif not back and here == met:
+                    first, second = cut[:n] + [way], [way + (to,)] + list(row[n:])
+                else:
+                    continue
+                if says(row) > says(first) + price + says(second):
+                    return False
+    return True

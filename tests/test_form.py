@@ -25,6 +25,24 @@ INTERFACE = {
         "mended": ["lock", "book", "wish"], "waste": ["lock", "book", "wish"], "astray": ["lock", "book", "wish"],
         "settled": ["lock", "book"],
     },
+    "papers": {
+        "keeps": ["lock", "paper"], "bars": ["lock", "row", "price", "paper"], "told_paper": ["lock", "row"],
+    },
+    "behind": {
+        "keeps_behind": ["lock", "paper"], "bars_behind": ["lock", "row", "price", "paper"],
+        "behind_paper": ["lock", "row"],
+    },
+    "always": {
+        "uses": ["lock", "row", "gaps"], "lengths": ["lock", "row"], "needed": ["lock", "row"],
+        "spans": ["lock", "row", "gap"],
+    },
+    "changes": {
+        "put_gap": ["lock", "k", "here", "there", "price"], "out_gap": ["lock", "k", "here", "there"],
+        "put_way": ["lock", "k", "here", "there", "way"], "out_way": ["lock", "k", "here", "there", "way"],
+        "priced": ["lock", "k", "here", "there", "price"], "rusted": ["lock", "places"], "lower": ["lock", "many"],
+        "renamed": ["lock", "k", "names"], "turned": ["lock"], "upon": ["lock", "second", "stand"],
+        "without": ["lock", "places", "wish"], "is_within": ["lock", "second"],
+    },
 }
 LIBRARY = {"heapq": ["heappush", "heappop"]}
 

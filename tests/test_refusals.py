@@ -6,10 +6,16 @@ import unittest
 from tests import anything
 from tests.makers import ladder_lock, ring_lock
 from waitbolts import errors
+from waitbolts.always import lengths, needed, spans, uses
+from waitbolts.behind import bars_behind, behind_paper, keeps_behind
 from waitbolts.books import meets, told_way, weighed
 from waitbolts.bookwork import astray, back, joined, mended, part_of, settled, waste
+from waitbolts.changes import (
+    is_within, lower, out_gap, out_way, priced, put_gap, put_way, renamed, rusted, turned, upon, without,
+)
 from waitbolts.least import first_steps, how_many, least
 from waitbolts.locks import can_step, fault_of, is_lock, is_stand, is_wish, spread, stands_of, walked
+from waitbolts.papers import bars, keeps, told_paper
 from waitbolts.readings import moves, price_at, stand_at, step_at, time_at, times
 
 LOCK = ring_lock(3)
@@ -18,6 +24,8 @@ WISH = (None, 0, 1)
 ROW = (STAND, WISH, STAND)
 STEPS = [(1, 1), (0, 0)]
 BOOK = (((1, 0), (1, 1), (("step", 1, 1),)), ((1, 0, 0), (0, 1, 0), (("part", 0), ("step", 0, 0))))
+PLAIN = ((2, ()), (3, ((0, 1, 1, ((0,),)),)))
+PAPER = {((0,), (1,)): 1}
 MORE = (((0, 1, 0), (0, 1, 1), (("step", 2, 1),)),)
 
 # Of each function the things that are right, and the refusals of what is none, in their order.
@@ -47,6 +55,28 @@ CALLS = [
     (astray, (LOCK, BOOK, WISH), ["NoLock", "NoBook", "NoWish"]),
     (mended, (LOCK, BOOK, WISH), ["NoLock", "NoBook", "NoWish"]),
     (settled, (LOCK, BOOK), ["NoLock", "NoBook"]),
+    (keeps, (LOCK, PAPER), ["NoLock"]),
+    (bars, (LOCK, ROW, 7, PAPER), ["NoLock", "NoWishes", "NoPrice"]),
+    (told_paper, (LOCK, ROW), ["NoLock", "NoWishes"]),
+    (keeps_behind, (LOCK, PAPER), ["NoLock"]),
+    (bars_behind, (LOCK, ROW, 7, PAPER), ["NoLock", "NoWishes", "NoPrice"]),
+    (behind_paper, (LOCK, ROW), ["NoLock", "NoWishes"]),
+    (uses, (LOCK, ROW, [(0, 0, 1), (2, 1, 0)]), ["NoLock", "NoWishes", "NoGap"]),
+    (lengths, (LOCK, ROW), ["NoLock", "NoWishes"]),
+    (needed, (LOCK, ROW), ["NoLock", "NoWishes"]),
+    (spans, (LOCK, ROW, (0, 0, 1)), ["NoLock", "NoWishes", "NoGap"]),
+    (put_gap, (PLAIN, 1, 1, 2, 5), ["NoLock", "NoBolt", "NoGap", "NoGap", "NoPrice"]),
+    (out_gap, (PLAIN, 1, 0, 1), ["NoLock", "NoBolt", "NoGap", "NoGap"]),
+    (put_way, (PLAIN, 1, 0, 1, (1,)), ["NoLock", "NoBolt", "NoGap", "NoGap", "NoWay"]),
+    (out_way, (PLAIN, 1, 0, 1, (0,)), ["NoLock", "NoBolt", "NoGap", "NoGap", "NoWay"]),
+    (priced, (PLAIN, 1, 0, 1, 5), ["NoLock", "NoBolt", "NoGap", "NoGap", "NoPrice"]),
+    (rusted, (LOCK, {1: 0}), ["NoLock"]),
+    (without, (LOCK, {1: 0}, WISH), ["NoLock"]),
+    (lower, (LOCK, 2), ["NoLock", "NoBolt"]),
+    (renamed, (LOCK, 1, (1, 0)), ["NoLock", "NoBolt", "NoNames"]),
+    (turned, (LOCK,), ["NoLock"]),
+    (upon, (LOCK, LOCK, STAND), ["NoLock", "NoLock", "NoStand"]),
+    (is_within, (LOCK, LOCK), ["NoLock", "NoLock"]),
 ]
 
 
@@ -60,7 +90,9 @@ class RefusalsTest(unittest.TestCase):
     def test_the_first_that_is_due_is_told(self):
         for ask, right, names in CALLS:
             for wrong in range(1, 2 ** len(names)):
-                for thing in (None, True, (), [None], {}, "0", -1):
+                for thing in (None, True, (), [None], {0: None}, "0", -1):
+                    if thing is None and "NoPrice" in names and ask in (bars, bars_behind):
+                        continue
                     given = [thing if wrong >> n & 1 else one for n, one in enumerate(right)]
                     first = [name for n, name in enumerate(names) if wrong >> n & 1][0]
                     self.assertEqual(self.refused(ask, given), first, (ask, given))
@@ -127,6 +159,8 @@ class AskedTest(unittest.TestCase):
         for ask, given in (
             (can_step, (LOCK, STAND)), (first_steps, (ladder_lock(3), (0, 0, 0), (3, 3, 3))),
             (first_steps, (LOCK, STAND, STAND)), (spread, (LOCK, STAND, 9)), (moves, (LOCK, BOOK)),
+            (told_paper, (LOCK, ROW)), (behind_paper, (LOCK, ROW)), (needed, (LOCK, ROW)),
+            (spans, (LOCK, ROW, (0, 0, 1))), (needed, (LOCK, (STAND, STAND))), (told_paper, (LOCK, (STAND, STAND))),
         ):
             told = ask(*given)
             kept = copy.deepcopy(told)
@@ -145,6 +179,20 @@ class AskedTest(unittest.TestCase):
         self.assertEqual([type(least(LOCK, ROW)), type(first_steps(LOCK, STAND, WISH))], [int, list])
         self.assertTrue(all(type(step) is tuple for step in first_steps(LOCK, STAND, WISH)))
         self.assertIs(type(how_many(LOCK, STAND, WISH, 1)), int)
+
+    def test_papers_are_no_part_of_what_made_them(self):
+        paper = told_paper(LOCK, ROW)
+        kept = copy.deepcopy(paper)
+        self.assertIs(bars(LOCK, ROW, least(LOCK, ROW), paper), True)
+        self.assertEqual(paper, kept)
+
+    def test_the_kinds_of_what_is_told_of_all_least_ways(self):
+        for told in (uses(LOCK, ROW, []), lengths(LOCK, ROW)):
+            self.assertEqual([type(told)] + [type(count) for count in told], [tuple, int, int])
+        for told in (needed(LOCK, ROW), spans(LOCK, ROW, (0, 0, 1))):
+            self.assertIs(type(told), list)
+            self.assertTrue(told and all(type(one) is tuple for one in told))
+        self.assertTrue(all(type(one) is int for span in spans(LOCK, ROW, (0, 0, 1)) for one in span))
 
     def test_the_kinds_of_what_is_told_of_books(self):
         self.assertEqual([type(thing) for thing in weighed(LOCK, BOOK)], [tuple, tuple, int, int])

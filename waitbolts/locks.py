@@ -87,6 +87,11 @@ def manys_of(lock):
     return [bolt[0] for bolt in lock]
 
 
+def gaps_of(lock):
+    """A dict from the lock's gaps (k, from, to) to their tuples of ways."""
+    return {(k, gap[0], gap[1]): gap[3] for k, bolt in enumerate(lock) for gap in bolt[1]}
+
+
 def need_lock(lock):
     """Refuse what is no lock."""
     fault = fault_of(lock)

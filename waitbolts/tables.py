@@ -18,112 +18,135 @@ class Level:
     A start is a tuple (row of entries below, place of this bolt or None,
     layer), an end is one with a column of the table below in the place of the
     row. A move is a tuple (number of the word below, from, to, price, note of
-    the step), a hop a tuple (number of a move, layer in which it is done);
-    asked has the places, or None, that the wishes between want of this bolt.
+    the step). A hop is a move done in a layer: a tuple (column of the table
+    below, from, to, price, note); its column is the row from behind it, too.
+    Asked has the places, or None, that the wishes between want of this bolt.
     """
 
-    def __init__(self, below, many, moves, asked, notes):
+    def __init__(self, below, many, moves, asked, ends, notes):
         self.below = below
         self.many = many
         self.moves = moves
         self.asked = asked
+        self.ends = ends
         self.notes = notes
         self.layers = len(asked) + 1
-        self.onward = [[layers_from(asked, place, layer) for layer in range(self.layers)] for place in range(many)]
+        layers = range(self.layers)
+        self.hops = [
+            (word * self.layers + met, here, there, price, note)
+            for word, here, there, price, note in moves
+            for met in layers
+        ]
+        self.onward = [[layers_from(asked, place, layer) for layer in layers] for place in range(many)]
+        self.nexts = [[self.hops_from(place, layer) for layer in layers] for place in range(many)]
+        self.lasts = [self.hops_to(end) for end in ends]
 
-    def entries(self, start, ends):
+    def changed(self, below, moves):
+        """The same bolt upon another table, and with other moves."""
+        return Level(below, self.many, moves, self.asked, self.ends, self.notes)
+
+    def hops_from(self, place, layer):
+        """The numbers of the hops that may be the first ones where this bolt stands at a place."""
+        met = self.onward[place][layer]
+        return [
+            number for number, hop in enumerate(self.hops) if hop[1] == place and number % self.layers in met
+        ]
+
+    def hops_to(self, end):
+        """The numbers of the hops that may be the last ones ahead of an end."""
+        _, last, upto = end
+        return [
+            number for number, hop in enumerate(self.hops)
+            if last in (None, hop[2]) and upto in self.onward[hop[2]][number % self.layers]
+        ]
+
+    def entries(self, start):
         """The entries from a start to all ends."""
         known = self.moved(start)
-        return [self.entry(start, end, known) for end in ends]
+        return [self.entry(start, number, known) for number in range(len(self.ends))]
 
-    def entry(self, start, end, known):
-        """The entry from a start to an end, known what moved tells of the start."""
-        below, _, layer = start
-        column, _, upto = end
-        if upto < layer:
+    def entry(self, start, number, known):
+        """The entry from a start to an end, told by its number, known what moved tells of the start."""
+        column, last, upto = self.ends[number]
+        if upto < start[2]:
             return None
         # Where this bolt can stay, no least way moves it.
-        if are_one(self.wanted(start, end)):
-            return below[column]
+        if are_one([start[1], last] + self.asked[start[2]:upto]):
+            return start[0][column]
         found = None
-        for hop in known:
-            found = self.better(found, self.joined(known[hop], self.rested(self.behind(hop), end)))
+        for hop in self.lasts[number]:
+            if known[hop] is not None:
+                found = self.better(found, self.joined(known[hop], self.below[self.hops[hop][0]][column]))
         return found
 
-    def wanted(self, start, end):
-        """The places, or None, that a start, the wishes that are met behind it and an end want of this bolt."""
-        return [start[1]] + self.asked[start[2]:end[2]] + [end[1]]
-
-    def rested(self, start, end):
-        """The entry below from a start to an end, one of which has a place, where this bolt stays at it."""
-        below, place, layer = start
-        column, last, upto = end
-        at = last if place is None else place
-        if last not in (None, at) or upto not in self.onward[at][layer]:
-            return None
-        return below[column]
-
-    def behind(self, hop):
+    def behind(self, number):
         """The start from behind a hop."""
-        number, met = hop
-        return self.below[self.column_of(hop)], self.moves[number][2], met
-
-    def column_of(self, hop):
-        """The column of the table below that a hop is done at; it is the row from behind it, too."""
-        return self.moves[hop[0]][0] * self.layers + hop[1]
+        column, _, there, _, _ = self.hops[number]
+        return self.below[column], there, number % self.layers
 
     def moved(self, start):
-        """A dict from all hops that can be come to from a start to the entries of the least ways that end with them."""
+        """A list of the entries of the least ways from a start that end with each hop, None where none does."""
         below, place, layer = start
-        best = {}
+        best = [None] * len(self.hops)
         queue = []
         for at in range(self.many):
             if place in (None, at):
                 self.move_on(best, queue, (0, self.notes.standing()), (below, at, layer))
         while queue:
-            price, number, met = heappop(queue)
-            hop = (number, met)
-            if price == best[hop][0]:
-                self.move_on(best, queue, best[hop], self.behind(hop))
+            price, number = heappop(queue)
+            if price == best[number][0]:
+                self.move_on(best, queue, best[number], self.behind(number))
         return best
 
     def move_on(self, best, queue, entry, start):
-        """Put into best and the queue what the next moves come to, behind the ways that led to a start."""
+        """Put into best and the queue what the next hops come to, behind the ways that led to a start."""
         below, place, layer = start
-        for number, (_, here, _, price, note) in enumerate(self.moves):
-            if here != place:
+        for number in self.nexts[place][layer]:
+            column, _, _, price, note = self.hops[number]
+            if below[column] is None:
                 continue
-            for met in self.onward[place][layer]:
-                hop = (number, met)
-                led = self.joined(entry, below[self.column_of(hop)])
-                if led is not None:
-                    led = self.joined(led, (price, note))
-                    old = best.get(hop)
-                    best[hop] = self.better(old, led)
-                    if old is None or led[0] < old[0]:
-                        heappush(queue, (led[0], number, met))
+            total = entry[0] + below[column][0] + price
+            old = best[number]
+            if old is None or total <= old[0]:
+                led = self.joined(self.joined(entry, below[column]), (price, note))
+                best[number] = self.better(old, led)
+                if old is None or total < old[0]:
+                    heappush(queue, (total, number))
 
-    def hops(self, start, end, known):
-        """The hops, in their order, of a least way from a start to an end between which this bolt can't stay."""
-        price = self.entry(start, end, known)[0]
+    def way(self, start, number):
+        """The numbers of the hops, in their order, of a least way from a start to an end told by its number.
+
+        This bolt can't stay between them.
+        """
+        known = self.moved(start)
+        price = self.entry(start, number, known)[0]
+        column, lasts = self.ends[number][0], self.lasts[number]
         found = []
         while True:
-            hop = self.last_hop(end, known, price)
-            _, here, _, paid, _ = self.moves[hop[0]]
+            hop = self.last_hop(known, lasts, column, price)
             found.append(hop)
+            column, here, _, paid, _ = self.hops[hop]
             price = known[hop][0] - paid
-            end = (self.column_of(hop), here, hop[1])
-            rest = self.rested(start, end)
-            if rest is not None and rest[0] == price:
+            if self.is_first(start, hop, price):
                 return found[::-1]
+            lasts = self.hops_to((column, here, hop % self.layers))
 
-    def last_hop(self, end, known, price):
-        """A hop with which this bolt moves last on some way that comes to an end for a price."""
-        for hop in known:
-            rest = self.rested(self.behind(hop), end)
-            if rest is not None and known[hop][0] + rest[0] == price:
-                return hop
+    def last_hop(self, known, lasts, column, price):
+        """The first of some hops behind which a column is come to for a price in all."""
+        for hop in lasts:
+            if known[hop] is not None:
+                rest = self.below[self.hops[hop][0]][column]
+                if rest is not None and known[hop][0] + rest[0] == price:
+                    return hop
         return None
+
+    def is_first(self, start, number, price):
+        """Whether a hop may be the first one from a start, those below being brought there for a price."""
+        below, place, layer = start
+        column, here, _, _, _ = self.hops[number]
+        if place not in (None, here) or number not in self.nexts[here][layer]:
+            return False
+        return below[column] is not None and below[column][0] == price
 
     def joined(self, entry, other):
         """The entry of the ways of one entry with those of another behind them."""
@@ -143,8 +166,8 @@ class Level:
 class Tower:
     """The tables of all bolts of a lock, for the wishes of a row behind its first.
 
-    Of each bolt there are its level, its stops (the starts from which its
-    table is told, with the numbers of the rows below) and its ends.
+    Of each bolt there are its level and its stops, the starts from which its
+    table is told, with the numbers of the rows below.
     """
 
     def __init__(self, lock, wishes, notes):
@@ -153,48 +176,63 @@ class Tower:
         self.layers = len(wishes)
         self.levels = []
         self.stops = []
-        self.ends = []
-        words = words_of(lock) + [[]]
-        self.ground = ground_row(len(words[0]), 0, self.layers, notes)
-        table = [
-            ground_row(len(words[0]), layer, self.layers, notes) for _ in words[0] for layer in range(self.layers)
-        ]
-        for k in range(len(lock)):
-            table = self.put(table, k, lock[k], words[k], words[k + 1])
+        self.words = words_of(lock) + [[]]
+        many = len(self.words[0])
+        self.ground = ground_row(many, 0, self.layers, notes)
+        table = [ground_row(many, layer, self.layers, notes) for _ in range(many) for layer in range(self.layers)]
+        for k, bolt in enumerate(lock):
+            table = self.put(table, k, bolt)
 
-    def put(self, below, k, bolt, words, above):
+    def put(self, below, k, bolt):
         """Put bolt k upon the table of those below it, and tell its own, between the words from above."""
         many, gaps = bolt
-        numbers = {word: number for number, word in enumerate(words)}
+        numbers = {word: number for number, word in enumerate(self.words[k])}
         moves = [
-            (numbers[way], here, there, price, self.notes.stepping(k, there))
+            (numbers[way], here, there, price, self.notes.stepping(k, here, there, way))
             for here, there, price, ways in gaps
             for way in ways
         ]
-        level = Level(below, many, moves, [wish[k] for wish in self.wishes[:-1]], self.notes)
-        layers = range(self.layers)
-        stops = [(numbers[word[:k]] * self.layers + layer, word[k], layer) for word in above for layer in layers]
+        stops = [
+            (numbers[word[:k]] * self.layers + layer, word[k], layer)
+            for word in self.words[k + 1]
+            for layer in range(self.layers)
+        ]
         ends = stops + [(len(below), self.wishes[-1][k], self.layers - 1)]
+        level = Level(below, many, moves, [wish[k] for wish in self.wishes[:-1]], ends, self.notes)
         self.levels.append(level)
         self.stops.append(stops)
-        self.ends.append(ends)
-        return [level.entries((below[row], place, layer), ends) for row, place, layer in stops]
+        return table_of(level, stops)
 
     def rows_from(self, wish):
         """A list of the rows of entries from a first wish, one of no bolts, one of the lowest, and so on."""
         rows = [self.ground]
-        for level, ends, place in zip(self.levels, self.ends, wish):
-            rows.append(level.entries((rows[-1], place, 0), ends))
+        for level, place in zip(self.levels, wish):
+            rows.append(level.entries((rows[-1], place, 0)))
         return rows
 
     def entry_from(self, wish):
         """The entry of the least ways from a first wish that meet the others; None where none does."""
         return self.rows_from(wish)[-1][-1]
 
+    def entry_changed(self, wish, rows, k, moves):
+        """The entry from a first wish, known its rows, if bolt k had other moves."""
+        table = self.levels[k].below
+        row = rows[k]
+        for n in range(k, len(self.levels)):
+            level = self.levels[n].changed(table, moves if n == k else self.levels[n].moves)
+            row = level.entries((row, wish[n], 0))
+            table = table_of(level, self.stops[n])
+        return row[-1]
+
     def price_from(self, wish):
         """The least price of a way from a first wish that meets the others; None where none does."""
         entry = self.entry_from(wish)
         return None if entry is None else entry[0]
+
+
+def table_of(level, stops):
+    """The table from all stops to all ends of a level."""
+    return [level.entries((level.below[row], place, layer)) for row, place, layer in stops]
 
 
 def layers_from(asked, place, layer):
@@ -213,7 +251,7 @@ def are_one(places):
 
 
 def ground_row(many, layer, layers, notes):
-    """The row of the table of no bolts from a layer."""
+    """The row of the table of no bolts, with so many words, from a layer."""
     ends = [upto for _ in range(many) for upto in range(layers)] + [layers - 1]
     return [(0, notes.standing()) if layer <= upto else None for upto in ends]
 

@@ -17,7 +17,6 @@ class Writer:
         self.first = row[0]
         self.tower = Tower(lock, row[1:], NoNotes())
         self.rows = self.tower.rows_from(self.first)
-        self.known = {}
         self.legs = {}
         self.binder = Binder()
 
@@ -39,35 +38,30 @@ class Writer:
 
     def made(self, k, row, column):
         """The leg of the bolts up to bolt k, made of legs of those below it."""
-        stop = (None, self.first[k], 0) if row is None else self.tower.stops[k][row]
-        end = self.tower.ends[k][column]
-        places = self.tower.levels[k].wanted(stop, end)
+        level = self.tower.levels[k]
+        at, place, layer = (None, self.first[k], 0) if row is None else self.tower.stops[k][row]
+        to, last, upto = level.ends[column]
+        places = [place, last] + level.asked[layer:upto]
         if not are_one(places):
-            return self.moving(k, row, stop, end)
-        begin, behind, entries = self.leg(k, stop[0], end[0])
+            below = self.rows[k] if row is None else level.below[at]
+            return self.moving(k, at, level.way((below, place, layer), column), to)
+        begin, behind, entries = self.leg(k, at, to)
         # A bolt that nothing is wanted of may stand anywhere.
         stays = ([one for one in places if one is not None] + [0])[0]
         return begin + (stays,), behind + (stays,), entries
 
-    def moving(self, k, row, stop, end):
-        """The leg of the bolts up to bolt k from a start to an end between which bolt k can't stay."""
-        level = self.tower.levels[k]
-        at, place, layer = stop
-        below = self.rows[k] if row is None else level.below[at]
-        start = (below, place, layer)
-        if (k, row) not in self.known:
-            self.known[(k, row)] = level.moved(start)
-        hops = level.hops(start, end, self.known[(k, row)])
+    def moving(self, k, at, way, to):
+        """The leg of the bolts up to bolt k with these hops of bolt k between a row and a column below."""
+        hops = [self.tower.levels[k].hops[number] for number in way]
         legs = []
-        for column in [level.column_of(hop) for hop in hops] + [end[0]]:
+        for column in [hop[0] for hop in hops] + [to]:
             legs.append(self.leg(k, at, column))
             at = column
-        moves = [level.moves[hop[0]] for hop in hops]
         entries = list(legs[0][2])
-        for move, leg in zip(moves, legs[1:]):
-            entries.append(("step", k, move[2]))
+        for hop, leg in zip(hops, legs[1:]):
+            entries.append(("step", k, hop[2]))
             entries.extend(leg[2])
-        begin, behind = legs[0][0] + (moves[0][1],), legs[-1][1] + (moves[-1][2],)
+        begin, behind = legs[0][0] + (hops[0][1],), legs[-1][1] + (hops[-1][2],)
         # A single step stands for itself.
         if len(entries) > 1:
             entries = [self.binder.put(begin, behind, entries)]
