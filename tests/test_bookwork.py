@@ -107,6 +107,12 @@ class PartOfTest(unittest.TestCase):
             self.assertEqual(weighed(PAIR, part_of(PAIR, book, 0, 0)), (begin, begin, 0, 0))
             self.assertEqual(weighed(PAIR, part_of(PAIR, book, count, count)), (end, end, 0, 0))
 
+    def test_what_is_cut_out_whole_does_not_grow(self):
+        book = line_way(10, SIZE - 10)
+        self.assertEqual(part_of(LINE, book, 0, SIZE - 20), book)
+        # Parts that none uses are left behind.
+        self.assertEqual(part_of(PAIR, still(5, (1, 1)) + loops(1), 0, 10), loops(1))
+
     def test_great_loops(self):
         book = loops(300)
         for t, u in ((0, 10 ** 300), (1, 10 ** 300), (0, 10 ** 300 - 1), (7, 10 ** 299 + 8), (5, 5), (5, 6)):

@@ -137,15 +137,16 @@ class GreatTest(unittest.TestCase):
             self.assertEqual(time_at(lock, book, wish, n), n // 2 * 6 + n % 2 * 5)
 
     def test_deep_chains(self):
-        lock = line_lock([2] * 60)
+        lock = line_lock([2] * 3)
         steps = [(0, 1), (0, 0)] * 14999 + [(0, 1)]
-        book = chain(lock, (0,) * 60, steps)
-        self.assertEqual(step_at(lock, book, 15000), steps[15000])
-        self.assertEqual(stand_at(lock, book, 1), (1,) + (0,) * 59)
-        self.assertEqual(moves(lock, book), [29999] + [0] * 59)
-        self.assertEqual(time_at(lock, book, (1,) + (None,) * 59, 14999), 29999)
+        book = chain(lock, (0, 0, 0), steps)
+        for t in (0, 1, 15000, 29998):
+            self.assertEqual(step_at(lock, book, t), steps[t])
+            self.assertEqual(stand_at(lock, book, t), (t % 2, 0, 0))
+        self.assertEqual(moves(lock, book), [29999, 0, 0])
+        self.assertEqual(time_at(lock, book, (1, None, None), 14999), 29999)
         # Parts without steps may be gone more often than can be counted.
-        book = still(1) + tuple((HERE, HERE, (("part", n),) * 60) for n in range(29999))
+        book = still(1) + tuple((HERE, HERE, (("part", n),) * 3) for n in range(29999))
         self.assertEqual(moves(PAIR, book), [0, 0])
         self.assertEqual(times(PAIR, book, HERE), 1)
 

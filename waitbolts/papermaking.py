@@ -23,19 +23,19 @@ class Maker:
         self.hop_entries = {}
         self.paper = {}
         self.work = []
-        self.claimed = {}
+        self.wanted = {}
 
     def made(self):
         """The paper."""
-        self.claim((len(self.rows) - 2, (FIRST, 0), 0))
+        self.want((len(self.rows) - 2, (FIRST, 0), 0))
         while self.work:
             self.put(self.work.pop())
         return self.paper
 
-    def claim(self, claim):
+    def want(self, claim):
         """Have a row put into the paper, unless it is there already or says 0."""
-        if self.says(claim) != 0 and claim not in self.claimed:
-            self.claimed[claim] = True
+        if self.says(claim) != 0 and claim not in self.wanted:
+            self.wanted[claim] = True
             self.work.append(claim)
 
     def says(self, claim):
@@ -59,7 +59,7 @@ class Maker:
         return self.hop_entries[(k, number)]
 
     def put(self, claim):
-        """Put a row into the paper, and claim those by which it keeps."""
+        """Put a row into the paper, and want those by which it keeps."""
         k, start, number = claim
         level = self.tower.levels[k]
         wish, ahead, place, layer = self.start(k, start)
@@ -70,23 +70,23 @@ class Maker:
         self.paper[row] = price
         places = [place] + [one[k] for one in between] + [last]
         if are_one(places):
-            self.claim((k - 1, ahead, column))
+            self.want((k - 1, ahead, column))
             return
         here = [one for one in places if one is not None][0]
         for hop in level.nexts[here][layer]:
             if hop % level.layers <= upto:
-                self.claim_by(price, (k - 1, ahead, level.hops[hop][0]), (k, (HOP, hop), number))
+                self.want_by(price, (k - 1, ahead, level.hops[hop][0]), (k, (HOP, hop), number))
 
-    def claim_by(self, price, first, second):
-        """Claim of two rows, between which a step is done, those that are wanted so that they say a price together."""
+    def want_by(self, price, first, second):
+        """Want, of two rows between which a step is done, as many as say a price together."""
         one, other = self.says(first), self.says(second)
         if one is None or (price is not None and one >= price):
-            self.claim(first)
+            self.want(first)
         elif other is None or (price is not None and other >= price):
-            self.claim(second)
+            self.want(second)
         else:
-            self.claim(first)
-            self.claim(second)
+            self.want(first)
+            self.want(second)
 
     def start(self, k, start):
         """A tuple (wish, start of the bolts below, place, layer) of a start at bolt k."""
