@@ -117,3 +117,19 @@ def random_wish(rng, lock, none=0.4):
 def random_stand(rng, lock):
     """A stand of the lock."""
     return random_wish(rng, lock, none=0)
+
+
+def both_ways(lock):
+    """The lock with gaps put in and ways taken out, so that each gap has one back with just the same ways."""
+    bolts = []
+    for k, (many, gaps) in enumerate(lock):
+        told = {}
+        left = 8
+        for here, there, price, ways in gaps:
+            if (here, there) not in told:
+                some = ways[:left // 2]
+                left -= 2 * len(some)
+                told[(here, there)] = (price, some)
+                told[(there, here)] = (price + k % 2, some)
+        bolts.append((many, tuple(pair + told[pair] for pair in sorted(told))))
+    return tuple(bolts)

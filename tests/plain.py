@@ -191,3 +191,20 @@ def row_keeps(lock, paper, row, back):
                 if says(row) > says(first) + price + says(second):
                     return False
     return True
+
+
+def needless(lock):
+    """The ways (k, from, to, way) of gaps beside which another way leads for no more."""
+    found = []
+    for k, here, there in gaps(lock):
+        [(price, ways)] = [gap[2:] for gap in lock[k][1] if gap[:2] == (here, there)]
+        for way in ways:
+            others = prices(without_way(lock[:k + 1], (k, here, there), way), [way + (here,)])
+            if others.get(way + (there,), price + 1) <= price:
+                found.append((k, here, there, way))
+    return found
+
+
+def all_prices(lock):
+    """A dict from each stand to the least prices of all stands that can be come to from it."""
+    return {stand: prices(lock, [stand]) for stand in stands(lock)}
