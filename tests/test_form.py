@@ -43,6 +43,26 @@ INTERFACE = {
         "renamed": ["lock", "k", "names"], "turned": ["lock"], "upon": ["lock", "second", "stand"],
         "without": ["lock", "places", "wish"], "is_within": ["lock", "second"],
     },
+    "lean": {"needless": ["lock"], "lean": ["lock"], "alike": ["lock", "second"]},
+    "reach": {"coming": ["lock", "wish"], "come_to": ["lock", "wish"], "lost": ["lock", "stand", "wish"]},
+    "parts": {
+        "together": ["lock", "one", "other"], "size": ["lock", "stand"], "parts": ["lock"],
+        "apart": ["lock", "one", "other"],
+    },
+    "made": {"made": ["count"], "row_of": ["places"]},
+    "texts": {
+        "show_lock": ["lock"], "show_book": ["book"], "show_paper": ["paper"], "read_lock": ["text"],
+        "read_book": ["text"], "read_paper": ["text"],
+    },
+}
+CLASSES = {
+    ("keepers", "Keeper"): {
+        "__init__": ["self", "lock", "stand", "home"], "do": ["self", "deed"], "run": ["self", "deeds"],
+        "undo": ["self"], "again": ["self"], "lock_now": ["self"], "free_lock": ["self"], "way_to": ["self", "wishes"],
+        "stand_now": ["self"], "coins_now": ["self"], "paid_now": ["self"], "gone_now": ["self"], "home_now": ["self"],
+        "rust_now": ["self"], "deeds_now": ["self"], "copied": ["self"],
+    },
+    ("desk", "Desk"): {"__init__": ["self"], "say": ["self", "row"]},
 }
 LIBRARY = {"heapq": ["heappush", "heappop"]}
 
@@ -60,6 +80,14 @@ class FormTest(unittest.TestCase):
             defined = {row.name: row for row in tree.body if isinstance(row, ast.FunctionDef)}
             for function, names in functions.items():
                 self.assertEqual([arg.arg for arg in defined[function].args.args], names)
+
+    def test_the_methods_are_defined_in_the_classes_themselves(self):
+        for (name, kind), methods in CLASSES.items():
+            tree = ast.parse((FOLDER / (name + ".py")).read_text(encoding="utf-8"))
+            [body] = [row.body for row in tree.body if isinstance(row, ast.ClassDef) and row.name == kind]
+            defined = {row.name: [arg.arg for arg in row.args.args] for row in body if isinstance(row, ast.FunctionDef)}
+            for method, names in methods.items():
+                self.assertEqual(defined[method], names)
 
     def test_the_folder_has_python_files_alone(self):
         others = [path.name for path in FOLDER.iterdir() if path.suffix != ".py" and path.name != "__pycache__"]

@@ -13,10 +13,16 @@ from waitbolts.bookwork import astray, back, joined, mended, part_of, settled, w
 from waitbolts.changes import (
     is_within, lower, out_gap, out_way, priced, put_gap, put_way, renamed, rusted, turned, upon, without,
 )
+from waitbolts.keepers import Keeper
+from waitbolts.lean import alike, lean, needless
 from waitbolts.least import first_steps, how_many, least
 from waitbolts.locks import can_step, fault_of, is_lock, is_stand, is_wish, spread, stands_of, walked
+from waitbolts.made import made, row_of
 from waitbolts.papers import bars, keeps, told_paper
+from waitbolts.parts import apart, parts, size, together
+from waitbolts.reach import come_to, coming, lost
 from waitbolts.readings import moves, price_at, stand_at, step_at, time_at, times
+from waitbolts.texts import show_lock
 
 LOCK = ring_lock(3)
 STAND = (1, 0, 0)
@@ -77,7 +83,21 @@ CALLS = [
     (turned, (LOCK,), ["NoLock"]),
     (upon, (LOCK, LOCK, STAND), ["NoLock", "NoLock", "NoStand"]),
     (is_within, (LOCK, LOCK), ["NoLock", "NoLock"]),
+    (needless, (LOCK,), ["NoLock"]),
+    (lean, (LOCK,), ["NoLock"]),
+    (alike, (LOCK, LOCK), ["NoLock", "NoLock"]),
+    (coming, (LOCK, WISH), ["NoLock", "NoWish"]),
+    (come_to, (LOCK, WISH), ["NoLock", "NoWish"]),
+    (lost, (LOCK, STAND, WISH), ["NoLock", "NoStand", "NoWish"]),
+    (together, (LOCK, STAND, STAND), ["NoLock", "NoStand", "NoStand"]),
+    (size, (LOCK, STAND), ["NoLock", "NoStand"]),
+    (parts, (LOCK,), ["NoLock"]),
+    (apart, (LOCK, STAND, STAND), ["NoLock", "NoStand", "NoStand"]),
+    (Keeper, (LOCK, STAND, WISH), ["NoLock", "NoStand", "NoWish"]),
+    (show_lock, (LOCK,), ["NoLock"]),
 ]
+# What is told of a keeper is another one each time it is made.
+TOLD = [call for call in CALLS if call[0] is not Keeper]
 
 
 class RefusalsTest(unittest.TestCase):
@@ -152,7 +172,7 @@ class AskedTest(unittest.TestCase):
         self.assertEqual(steps, [(1, 1), (1, 1), None])
 
     def test_whoever_asks_the_same_is_told_the_same(self):
-        for ask, right, _ in CALLS:
+        for ask, right, _ in TOLD:
             self.assertEqual(repr(ask(*right)), repr(ask(*copy.deepcopy(right))))
 
     def test_what_is_told_is_the_askers_own(self):
@@ -161,6 +181,8 @@ class AskedTest(unittest.TestCase):
             (first_steps, (LOCK, STAND, STAND)), (spread, (LOCK, STAND, 9)), (moves, (LOCK, BOOK)),
             (told_paper, (LOCK, ROW)), (behind_paper, (LOCK, ROW)), (needed, (LOCK, ROW)),
             (spans, (LOCK, ROW, (0, 0, 1))), (needed, (LOCK, (STAND, STAND))), (told_paper, (LOCK, (STAND, STAND))),
+            (needless, (LOCK,)), (needless, (PLAIN,)), (lost, (LOCK, STAND, WISH)), (lost, (PLAIN, (0, 0), (0, 0))),
+            (parts, (LOCK,)),
         ):
             told = ask(*given)
             kept = copy.deepcopy(told)
@@ -193,6 +215,14 @@ class AskedTest(unittest.TestCase):
             self.assertIs(type(told), list)
             self.assertTrue(told and all(type(one) is tuple for one in told))
         self.assertTrue(all(type(one) is int for span in spans(LOCK, ROW, (0, 0, 1)) for one in span))
+
+    def test_the_kinds_of_what_is_told_of_stands(self):
+        self.assertEqual([type(ask(LOCK)) for ask in (needless, lean, parts)], [list, tuple, list])
+        self.assertEqual([type(ask(LOCK, WISH)) for ask in (coming, come_to)], [int, int])
+        self.assertEqual([type(lost(PLAIN, (0, 0), (0, 0))), lost(PLAIN, (0, 0), (0, 0))], [list, [(1, 1)]])
+        self.assertEqual([type(size(LOCK, STAND)), together(LOCK, STAND, STAND)], [int, True])
+        self.assertEqual([type(told) for told in parts(LOCK)], [tuple])
+        self.assertEqual([type(row_of([2])), type(made(1))], [tuple, tuple])
 
     def test_the_kinds_of_what_is_told_of_books(self):
         self.assertEqual([type(thing) for thing in weighed(LOCK, BOOK)], [tuple, tuple, int, int])
